@@ -1,0 +1,1 @@
+"""Two machines in a row that break and are mended, with room for some pieces between."""
