@@ -35,6 +35,15 @@ def hundredths(state, ups, chances):
     return first * second
 
 
+def state_number(pieces, first, second):
+    return 4 * pieces + 2 * first + second
+
+
+def state_behind(state, ups, holds):
+    """The state behind an hour in which the two machines are up as told."""
+    return state_number(pieces_behind(state // 4, ups[0], ups[1], holds), ups[0], ups[1])
+
+
 def flows(chances, holds):
     """For each state a row: of a hundred hours in it, how many lead to each state, less the hundred themselves."""
     size = 4 * (holds + 1)
@@ -43,8 +52,7 @@ def flows(chances, holds):
         row = [0] * size
         row[state] = -100
         for ups in UPS:
-            pieces = pieces_behind(state // 4, ups[0], ups[1], holds)
-            row[4 * pieces + 2 * ups[0] + ups[1]] += hundredths(state, ups, chances)
+            row[state_behind(state, ups, holds)] += hundredths(state, ups, chances)
         rows.append(row)
     return rows
 
@@ -107,10 +115,37 @@ def fraction(above, below):
     return [above // shared, below // shared]
 
 
-def expected(found, chances, measure):
-    """How much measure(pieces, first, second) is in an hour, looked for, by the states' weights."""
+def measured(found, chances, measure):
+    """How much measure(pieces, first, second) is in an hour behind states of these weights, a hundred times over."""
     above = 0
     for state, weight in enumerate(found):
         for ups in UPS:
             above += weight * hundredths(state, ups, chances) * measure(state // 4, ups[0], ups[1])
-    return fraction(above, 100 * sum(found))
+    return above
+
+
+def expected(found, chances, measure):
+    """How much measure(pieces, first, second) is in an hour, looked for, by the states' weights."""
+    return fraction(measured(found, chances, measure), 100 * sum(found))
+
+
+def hour_on(found, chances, holds):
+    """The states' weights an hour on, a hundred times over, so that they stay whole."""
+    behind = [0] * len(found)
+    for state, weight in enumerate(found):
+        for ups in UPS:
+            behind[state_behind(state, ups, holds)] += weight * hundredths(state, ups, chances)
+    return behind
+
+
+def expected_soon(state, chances, holds, hours, measure):
+    """How much measure(pieces, first, second) is, looked for, in so many hours from a state on, all together."""
+    found = [0] * (4 * (holds + 1))
+    found[state] = 1
+    above = 0
+    below = 1
+    for past in range(hours):
+        above = 100 * above + measured(found, chances, measure)
+        below = 100 * below
+        found = hour_on(found, chances, holds)
+    return fraction(above, below)

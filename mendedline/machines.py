@@ -1,12 +1,20 @@
 """The calls on a line of two machines, and the lists in which they are handed in and answered."""
 
-from mendedline.longrun import expected, first_works, pieces_behind, second_works, weights
+from mendedline.longrun import first_works, pieces_behind, second_works, state_number
+from mendedline.longrun import expected, expected_soon, fraction, weights
 
 NO_SUCH = -2
 NOT_BEGUN = -11
+HANG_TOGETHER = -16
+SO_ALREADY = -17
 OUT_OF_RANGE = -22
+TOO_MANY = -28
 
 BEGIN = 0
+
+MOST_TENTHS = 9
+MOST_ROOM = 6
+MOST_HOURS = 5
 
 # How many whole numbers each call brings, by its number.
 SIZES = (5, 3, 1, 2, 0, 0, 1, 1, 1, 1, 0, 0, 3, 0, 0, 0, 0, 1, 1, 1, 1, 0, 0, 0)
@@ -29,11 +37,11 @@ class Line:
 
 
 def chances_fit(chances):
-    return all([1 <= chance <= 9 for chance in chances])
+    return all([1 <= chance <= MOST_TENTHS for chance in chances])
 
 
 def room_fits(holds):
-    return 1 <= holds <= 6
+    return 1 <= holds <= MOST_ROOM
 
 
 def start_over(line):
@@ -42,16 +50,24 @@ def start_over(line):
     line.second = 1
 
 
-def long_run(line):
+def long_run(line, chances, holds):
     """The states' weights; kept, since to find them costs far more than to ask them."""
-    key = tuple(line.chances + [line.holds])
+    key = tuple(chances + [holds])
     if key not in line.known:
-        line.known[key] = weights(line.chances, line.holds)
+        line.known[key] = weights(chances, holds)
     return line.known[key]
 
 
 def looked_for(line, measure):
-    return expected(long_run(line), line.chances, measure)
+    return expected(long_run(line, line.chances, line.holds), line.chances, measure)
+
+
+def turned_round(chances):
+    return chances[2:] + chances[:2]
+
+
+def one_changed(chances, at, by):
+    return chances[:at] + [chances[at] + by] + chances[at + 1:]
 
 
 def begin(line, given):
@@ -101,11 +117,16 @@ def fresh(line, given):
     return [lay]
 
 
+def brought(pieces, first, second):
+    """How many pieces come out in an hour."""
+    return second_works(pieces, second)
+
+
 def rate_of(line, machine):
     """How often a machine works, as a fraction."""
     if machine == 0:
         return looked_for(line, lambda pieces, first, second: first_works(pieces, first, second, line.holds))
-    return looked_for(line, lambda pieces, first, second: second_works(pieces, second))
+    return looked_for(line, brought)
 
 
 def out(line, given):
@@ -145,8 +166,91 @@ def full(line, given):
     return [0] + often_full + often_empty
 
 
+def long(line, given):
+    pieces = given[0]
+    first = given[1]
+    second = given[2]
+    if pieces > line.holds or first > 1 or second > 1:
+        return [OUT_OF_RANGE]
+    found = long_run(line, line.chances, line.holds)
+    return [0] + fraction(found[state_number(pieces, first, second)], sum(found))
+
+
+def both(line, given):
+    often_down = looked_for(line, lambda pieces, first, second: (1 - first) * (1 - second))
+    often_up = looked_for(line, lambda pieces, first, second: first * second)
+    return [0] + often_down + often_up
+
+
+def turn(line, given):
+    line.chances = turned_round(line.chances)
+    start_over(line)
+    return [line.holds]
+
+
+def beside(line, chances, holds):
+    """How often a piece would come out, were chances and room these; then how often as it is."""
+    as_it_would_be = expected(long_run(line, chances, holds), chances, brought)
+    return [0] + as_it_would_be + looked_for(line, brought)
+
+
+def turned(line, given):
+    return beside(line, turned_round(line.chances), line.holds)
+
+
+def more(line, given):
+    if line.holds == MOST_ROOM:
+        return [TOO_MANY]
+    return beside(line, line.chances, line.holds + 1)
+
+
+def sooner(line, given):
+    at = 2 * given[0] + 1
+    if line.chances[at] == MOST_TENTHS:
+        return [SO_ALREADY]
+    return beside(line, one_changed(line.chances, at, 1), line.holds)
+
+
+def fewer(line, given):
+    at = 2 * given[0]
+    if line.chances[at] == 1:
+        return [SO_ALREADY]
+    return beside(line, one_changed(line.chances, at, -1), line.holds)
+
+
+def alone(line, given):
+    breaks = line.chances[2 * given[0]]
+    mended = line.chances[2 * given[0] + 1]
+    return [0] + fraction(mended, mended + breaks) + fraction(10, breaks) + fraction(10, mended)
+
+
+def soon(line, given):
+    if given[0] > MOST_HOURS:
+        return [OUT_OF_RANGE]
+    here = state_number(line.pieces, line.first, line.second)
+    return [0] + expected_soon(here, line.chances, line.holds, given[0], brought)
+
+
+def free(line, given):
+    if line.chances[0] + line.chances[1] != 10 or line.chances[2] + line.chances[3] != 10:
+        return [HANG_TOGETHER]
+    # Then a machine that was up is up again by its chance of being mended, as one that was down: the line as it is.
+    return out(line, given)
+
+
+def now(line, given):
+    return [line.pieces, line.first, line.second]
+
+
+def state(line, given):
+    return [line.holds] + line.chances
+
+
 # By the calls' numbers.
-CALLS = (begin, change, room, hour, fresh, out, rate, up, starved, blocked, mean, full)
+CALLS = (
+    begin, change, room, hour, fresh, out, rate, up, starved, blocked, mean, full,
+    long, both, turn, turned, more, sooner, fewer, alone, soon, free, now, state,
+)
 
 
 def answer(line, number, given):
@@ -155,8 +259,6 @@ def answer(line, number, given):
         return [NOT_BEGUN]
     if number in OF_MACHINE and given[0] > 1:
         return [NO_SUCH]
-    if number >= len(CALLS):
-        raise NotImplementedError(f"call {number} is not built yet")
     return CALLS[number](line, given)
 
 

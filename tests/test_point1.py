@@ -1,15 +1,11 @@
-"""Point 1: begin, set (the call change), room, fresh."""
+"""Point 1: begin, set (the call change), room, turn, fresh, state."""
 
 import unittest
 
-from asking import ask, last
-from mendedline.machines import Line, answer
+from asking import ask, asking_calls, last
 
 BEGIN = ("begin", 2, 3, 4, 5, 3)
-
-
-def was_up(line):
-    return [line.first, line.second]
+UPS = ((0, 0), (0, 1), (1, 0), (1, 1))
 
 
 class Begin(unittest.TestCase):
@@ -35,12 +31,9 @@ class Begin(unittest.TestCase):
         self.assertEqual(told[3:], [[0], [0], [9, 8], [7, 6], [5]])
 
     def test_both_were_up(self):
-        line = Line()
-        answer(line, 0, [2, 3, 4, 5, 3])
-        self.assertEqual(was_up(line), [1, 1])
-        answer(line, 3, [0, 0])
-        answer(line, 0, [2, 3, 4, 5, 3])
-        self.assertEqual(was_up(line), [1, 1])
+        self.assertEqual(last(BEGIN, ("now",)), [0, 1, 1])
+        for ups in UPS:
+            self.assertEqual(last(BEGIN, ("hour", *ups), BEGIN, ("now",)), [0, 1, 1])
 
     def test_a_second_begin_changes_the_long_run(self):
         self.assertEqual(last(BEGIN, ("out",), ("begin", 5, 5, 5, 5, 1), ("out",)), [0, 1, 3])
@@ -54,10 +47,7 @@ class Change(unittest.TestCase):
 
     def test_the_other_machine_keeps_its_chances(self):
         for machine, chances in ((0, [7, 1, 4, 5]), (1, [2, 3, 7, 1])):
-            line = Line()
-            answer(line, 0, [2, 3, 4, 5, 3])
-            answer(line, 1, [machine, 7, 1])
-            self.assertEqual(line.chances, chances)
+            self.assertEqual(last(BEGIN, ("change", machine, 7, 1), ("state",)), [3] + chances)
 
     def test_the_edges_are_taken(self):
         for machine in (0, 1):
@@ -70,13 +60,9 @@ class Change(unittest.TestCase):
         self.assertEqual(told[-2:], [[2], [3]])
 
     def test_leaves_who_was_up(self):
-        for ups in ([0, 0], [0, 1], [1, 0], [1, 1]):
-            line = Line()
-            answer(line, 0, [2, 3, 4, 5, 3])
-            answer(line, 3, ups)
-            answer(line, 1, [0, 1, 1])
-            answer(line, 1, [1, 1, 1])
-            self.assertEqual(was_up(line), ups)
+        for ups in UPS:
+            told = last(BEGIN, ("hour", 1, 0), ("hour", *ups), ("change", 0, 1, 1), ("change", 1, 1, 1), ("now",))
+            self.assertEqual(told, [1 + ups[0] - ups[1], *ups])
 
     def test_the_long_run_is_as_if_begun_so(self):
         for machine, chances in ((0, (7, 1, 4, 5)), (1, (2, 3, 7, 1))):
@@ -107,13 +93,9 @@ class Room(unittest.TestCase):
             self.assertEqual(lying, [min(k, holds) for k in range(1, 9)])
 
     def test_leaves_chances_and_who_was_up(self):
-        line = Line()
-        answer(line, 0, [2, 3, 4, 5, 3])
-        answer(line, 3, [0, 0])
-        answer(line, 2, [4])
-        self.assertEqual(was_up(line), [0, 0])
-        self.assertEqual(answer(line, 1, [0, 1, 1]), [2, 3])
-        self.assertEqual(answer(line, 1, [1, 1, 1]), [4, 5])
+        for ups in UPS:
+            told = ask(BEGIN, ("hour", 1, 0), ("hour", *ups), ("room", 4), ("now",), ("state",))
+            self.assertEqual(told[-2:], [[0, *ups], [4, 2, 3, 4, 5]])
 
     def test_the_long_run_is_as_if_begun_so(self):
         for holds in range(1, 7):
@@ -129,17 +111,57 @@ class Fresh(unittest.TestCase):
             self.assertEqual(told[-2:], [[count], [0]])
 
     def test_both_were_up(self):
-        for ups in ([0, 0], [0, 1], [1, 0], [1, 1]):
-            line = Line()
-            answer(line, 0, [2, 3, 4, 5, 3])
-            answer(line, 3, ups)
-            self.assertEqual(was_up(line), ups)
-            answer(line, 4, [])
-            self.assertEqual(was_up(line), [1, 1])
+        for ups in UPS:
+            self.assertEqual(last(BEGIN, ("hour", 1, 0), ("hour", *ups), ("fresh",), ("now",)), [0, 1, 1])
 
     def test_leaves_chances_and_what_the_room_holds(self):
         told = ask(BEGIN, ("hour", 1, 0), ("fresh",), ("change", 0, 1, 1), ("change", 1, 1, 1), ("room", 1))
         self.assertEqual(told[-3:], [[2, 3], [4, 5], [3]])
+        self.assertEqual(last(BEGIN, ("hour", 1, 0), ("fresh",), ("state",)), [3, 2, 3, 4, 5])
+
+
+class Turn(unittest.TestCase):
+    def test_answers_what_the_room_holds(self):
+        for holds in range(1, 7):
+            told = ask(("begin", 2, 3, 4, 5, holds), ("hour", 1, 0), ("turn",), ("turn",))
+            self.assertEqual(told[-2:], [[holds], [holds]])
+
+    def test_the_second_is_the_first(self):
+        self.assertEqual(ask(BEGIN, ("turn",), ("state",))[-1], [3, 4, 5, 2, 3])
+        self.assertEqual(ask(BEGIN, ("turn",), ("change", 0, 1, 1), ("state",))[-2:], [[4, 5], [3, 1, 1, 2, 3]])
+
+    def test_the_room_is_empty_and_both_were_up(self):
+        for ups in UPS:
+            self.assertEqual(last(BEGIN, ("hour", 1, 0), ("hour", *ups), ("turn",), ("now",)), [0, 1, 1])
+
+    def test_all_is_as_if_begun_so(self):
+        for chances, holds in (((2, 3, 4, 5), 3), ((1, 9, 9, 1), 1), ((7, 3, 6, 4), 6)):
+            b1, r1, b2, r2 = chances
+            hours = (("hour", 1, 0), ("hour", 0, 0), ("hour", 1, 1))
+            turned = ask(("begin", *chances, holds), ("out",), ("hour", 1, 0), ("turn",), *hours, *asking_calls(holds))
+            begun = ask(("begin", b2, r2, b1, r1, holds), *hours, *asking_calls(holds))
+            self.assertEqual(turned[4:], begun[1:])
+
+    def test_turned_round_twice(self):
+        twice = ask(BEGIN, ("hour", 1, 0), ("turn",), ("hour", 1, 0), ("turn",), *asking_calls(3))[5:]
+        self.assertEqual(twice, ask(BEGIN, *asking_calls(3))[1:])
+
+    def test_two_alike_stay_as_they_are(self):
+        self.assertEqual(last(("begin", 6, 2, 6, 2, 4), ("turn",), ("state",)), [4, 6, 2, 6, 2])
+
+
+class State(unittest.TestCase):
+    def test_answers_what_the_room_holds_then_the_four_chances(self):
+        for chances in ((1, 2, 3, 4), (9, 8, 7, 6), (1, 9, 9, 1)):
+            for holds in range(1, 7):
+                self.assertEqual(last(("begin", *chances, holds), ("state",)), [holds, *chances])
+
+    def test_tells_what_was_changed_behind_begin(self):
+        told = ask(BEGIN, ("change", 1, 8, 9), ("state",), ("room", 6), ("state",), ("change", 0, 7, 1), ("state",))
+        self.assertEqual(told[2::2], [[3, 2, 3, 8, 9], [6, 2, 3, 8, 9], [6, 7, 1, 8, 9]])
+
+    def test_does_not_hang_on_pieces(self):
+        self.assertEqual(last(BEGIN, ("hour", 1, 0), ("hour", 0, 0), ("state",)), [3, 2, 3, 4, 5])
 
 
 if __name__ == "__main__":
